@@ -1,0 +1,1 @@
+"""A two-sided tabular CUSUM control chart for shot weights."""
