@@ -4,7 +4,7 @@ SET_SHOTS = 2
 
 # How many parameters each call has, by its number; the weights of
 # set_shots bring their own count, which stands for its 0 here.
-PARAMETER_COUNTS = (3, 1, 0, 0, 2, 1, 2, 0, 0)
+PARAMETER_COUNTS = (3, 1, 0, 0, 2, 1, 2, 0, 0, 0, 0, 1, 1, 1, 0, 0, 0, 0)
 
 
 def split_calls(numbers):

@@ -20,6 +20,11 @@ def with_weights(instance, weights):
     return Instance(instance.target, instance.allowance, instance.threshold, weights)
 
 
+def with_shot(instance, weight):
+    """Make an instance with one more shot, without asking whether there is room for it."""
+    return with_weights(instance, instance.weights + [weight])
+
+
 def with_target(instance, target):
     """Make an instance with another target and all else the same."""
     return Instance(target, instance.allowance, instance.threshold, instance.weights)
@@ -28,3 +33,8 @@ def with_target(instance, target):
 def with_limits(instance, allowance, threshold):
     """Make an instance with another allowance and threshold and all else the same."""
     return Instance(instance.target, allowance, threshold, instance.weights)
+
+
+def has_shot(instance, shot):
+    """Tell whether there is a shot of this number."""
+    return 0 <= shot < len(instance.weights)

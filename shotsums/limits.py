@@ -1,9 +1,11 @@
 """The codes of the refusals, and the ranges of what is handed in."""
 
 NO_SUCH_SHOT = -2
+NO_SHOTS = -6
 NO_INSTANCE = -11
 OUT_OF_RANGE = -22
 TOO_MANY_SHOTS = -28
+NO_ALARM = -33
 
 MOST_SHOTS = 24
 MOST_WEIGHT = 9999

@@ -1,10 +1,12 @@
-"""The operations. Each takes the instance and the parameters of its call,
-and gives back the instance that is there afterwards and the answer."""
+"""The operations that make or change an instance. Each takes the instance and
+the parameters of its call, and gives back the instance that is there
+afterwards and the answer."""
 
-from shotsums.instance import Instance, with_limits, with_target, with_weights
+from shotsums.instance import Instance, has_shot, with_limits, with_shot, with_target, with_weights
 from shotsums.limits import MOST_SHOTS, NO_INSTANCE, NO_SUCH_SHOT, OUT_OF_RANGE, TOO_MANY_SHOTS
 from shotsums.limits import all_in_weight_range, in_limit_range, in_weight_range
-from shotsums.sums import lower_cumulative, state_at_last_shot, upper_cumulative
+from shotsums.queries import answer_query
+from shotsums.sums import state_at_last_shot
 
 CREATE = 0
 
@@ -24,7 +26,7 @@ def add_shot(instance, parameters):
         return instance, [OUT_OF_RANGE]
     if len(instance.weights) >= MOST_SHOTS:
         return instance, [TOO_MANY_SHOTS]
-    longer = with_weights(instance, instance.weights + [weight])
+    longer = with_shot(instance, weight)
     return longer, state_at_last_shot(longer)
 
 
@@ -43,7 +45,7 @@ def clear_shots(instance, parameters):
 def set_weight(instance, parameters):
     """Change the weight of one shot."""
     shot, weight = parameters
-    if not 0 <= shot < len(instance.weights):
+    if not has_shot(instance, shot):
         return instance, [NO_SUCH_SHOT]
     if not in_weight_range(weight):
         return instance, [OUT_OF_RANGE]
@@ -68,33 +70,22 @@ def set_limits(instance, parameters):
     return with_limits(instance, allowance, threshold), [0, instance.allowance, instance.threshold]
 
 
-def upper_sums(instance, parameters):
-    """List the number of shots, then the upper sum at each."""
-    return instance, [len(instance.weights)] + upper_cumulative(instance)
-
-
-def lower_sums(instance, parameters):
-    """List the number of shots, then the lower sum at each."""
-    return instance, [len(instance.weights)] + lower_cumulative(instance)
-
-
-# The place of an operation here is the number of its call.
-OPERATIONS = (
-    create,
-    add_shot,
-    set_shots,
-    clear_shots,
-    set_weight,
-    set_target,
-    set_limits,
-    upper_sums,
-    lower_sums,
-)
+CHANGES = {
+    0: create,
+    1: add_shot,
+    2: set_shots,
+    3: clear_shots,
+    4: set_weight,
+    5: set_target,
+    6: set_limits,
+}
 
 
 def carry_out(instance, number, parameters):
     """Carry out one call; the instance is None as long as there is none."""
     if instance is None and number != CREATE:
         return instance, [NO_INSTANCE]
-    operation = OPERATIONS[number]
-    return operation(instance, parameters)
+    if number in CHANGES:
+        change = CHANGES[number]
+        return change(instance, parameters)
+    return instance, answer_query(instance, number, parameters)

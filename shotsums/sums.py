@@ -11,6 +11,16 @@ def shortfall(instance, weight):
     return instance.target - weight - instance.allowance
 
 
+def excesses(instance):
+    """List the excess of each shot."""
+    return [excess(instance, weight) for weight in instance.weights]
+
+
+def shortfalls(instance):
+    """List the shortfall of each shot."""
+    return [shortfall(instance, weight) for weight in instance.weights]
+
+
 def cumulative(deviations):
     """Add up the deviations one by one, never below 0, and list each sum on the way."""
     reached = 0
@@ -23,12 +33,12 @@ def cumulative(deviations):
 
 def upper_cumulative(instance):
     """List the upper cumulative sum at each shot."""
-    return cumulative([excess(instance, weight) for weight in instance.weights])
+    return cumulative(excesses(instance))
 
 
 def lower_cumulative(instance):
     """List the lower cumulative sum at each shot."""
-    return cumulative([shortfall(instance, weight) for weight in instance.weights])
+    return cumulative(shortfalls(instance))
 
 
 def alarm_code(instance, upper, lower):
@@ -39,6 +49,13 @@ def alarm_code(instance, upper, lower):
     if lower > instance.threshold:
         code = code + 2
     return code
+
+
+def alarm_codes(instance):
+    """List the alarm code at each shot."""
+    uppers = upper_cumulative(instance)
+    lowers = lower_cumulative(instance)
+    return [alarm_code(instance, upper, lower) for upper, lower in zip(uppers, lowers)]
 
 
 def state_at_last_shot(instance):

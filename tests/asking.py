@@ -3,9 +3,11 @@
 from shotsums.chart import answers
 
 NO_SUCH_SHOT = [-2]
+NO_SHOTS = [-6]
 NO_INSTANCE = [-11]
 OUT_OF_RANGE = [-22]
 TOO_MANY_SHOTS = [-28]
+NO_ALARM = [-33]
 
 LOWEST_INTEGER = -2147483648
 HIGHEST_INTEGER = 2147483647
@@ -51,6 +53,42 @@ def lower_sums():
     return [8]
 
 
+def first_alarm():
+    return [9]
+
+
+def alarms():
+    return [10]
+
+
+def onset(n):
+    return [11, n]
+
+
+def worst_runs(n):
+    return [12, n]
+
+
+def add_shot_if(weight):
+    return [13, weight]
+
+
+def smallest_alarming_weight():
+    return [14]
+
+
+def longest_runs():
+    return [15]
+
+
+def mean_weight():
+    return [16]
+
+
+def describe():
+    return [17]
+
+
 def split_answers(numbers):
     """One list for each answer; the counts ahead of them must fit exactly."""
     result = []
@@ -77,8 +115,13 @@ def ask_last(*calls):
     return ask(*calls)[-1]
 
 
+def no_shots_behind(count):
+    """Numbers at which there is no shot: next to the ends of so many shots, and the outermost ones."""
+    return (-1, -count - 1, count, count + 1, LOWEST_INTEGER, HIGHEST_INTEGER)
+
+
 def reveal(shots):
-    """Calls whose answers tell all that an instance with so many shots holds."""
+    """Calls of 0 to 8 whose answers tell all that an instance with so many shots holds."""
     weights = [set_weight(i, 0) for i in range(shots)]
     return [upper_sums(), lower_sums()] + weights + [clear_shots(), set_limits(0, 0), set_target(0)]
 
